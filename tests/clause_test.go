@@ -678,10 +678,13 @@ func TestCleanClauseOfLists(t *testing.T) {
 	}
 }
 
+// badVars are numbers of variables that there are not.
+var badVars = []int{math.MinInt, math.MinInt + 1, -1 << 32, -13, -12, -2, -1, 13, 14, 64, 1 << 32, 1<<32 + 2, math.MaxInt}
+
 // Promise 19: numbers of variables that there are not give the zero result.
 func TestNumbersOfVariables(t *testing.T) {
 	lists := [][][]int{nil, {}, {{}}, {nil, {}}, {{1}}, {{1, 2}, {-1}}}
-	for _, vars := range []int{math.MinInt, math.MinInt + 1, -1 << 32, -13, -12, -2, -1, 13, 14, 64, 1 << 32, 1<<32 + 2, math.MaxInt} {
+	for _, vars := range badVars {
 		for _, l := range lists {
 			wantZeroClauses(t, fmt.Sprintf("%v of %d variables", l, vars), vars, l)
 		}
@@ -822,23 +825,30 @@ func TestBadModels(t *testing.T) {
 	}
 }
 
+// someOddClauses returns clauses and given literals, one of which is likely to
+// be the odd number that it returns too.
+func someOddClauses(g *lcg) (vars int, l [][]int, given []int, odd int) {
+	vars = g.below(14) - 1
+	l = someClauses(g, max(vars, 0), g.below(5))
+	given = someClause(g, max(vars, 0), g.below(4))
+	odd = oddNumbers[g.below(len(oddNumbers))]
+	if g.below(2) == 0 {
+		odd = g.below(28) - 14
+	}
+	switch at := g.below(len(l) + 1); {
+	case at < len(l) && len(l[at]) > 0:
+		l[at][g.below(len(l[at]))] = odd
+	case len(given) > 0:
+		given[g.below(len(given))] = odd
+	}
+	return vars, l, given, odd
+}
+
 // Promise 19: the functions answer for every number in every place.
 func TestClausesWithOddNumbers(t *testing.T) {
 	g := lcg(56)
 	for range 20000 {
-		vars := g.below(14) - 1
-		l := someClauses(&g, max(vars, 0), g.below(5))
-		given := someClause(&g, max(vars, 0), g.below(4))
-		odd := oddNumbers[g.below(len(oddNumbers))]
-		if g.below(2) == 0 {
-			odd = g.below(28) - 14
-		}
-		switch at := g.below(len(l) + 1); {
-		case at < len(l) && len(l[at]) > 0:
-			l[at][g.below(len(l[at]))] = odd
-		case len(given) > 0:
-			given[g.below(len(given))] = odd
-		}
+		vars, l, given, odd := someOddClauses(&g)
 		checkClauses(t, vars, l, given)
 		checkClean(t, given)
 		a, b := given, someClause(&g, 12, 1+g.below(4))
@@ -961,20 +971,20 @@ func TestClausesAreNewMemory(t *testing.T) {
 				checkNew(t, func() []int { p, _ := impl.Resolve([]int{-x[0]}, x, -x[0]); return p }, -7)
 			}
 		}
-		checkReducedApart(t, c)
+		checkApart(t, func() [][]int { r, _ := impl.Reduce(c.vars, c.l, c.given); return r })
 		if now, _ := c.all(); !sameClauses(now, lists) {
 			t.Fatalf("a result shares memory: %v became %v", lists, now)
 		}
 	}
 }
 
-// checkReducedApart overwrites each reduced clause up to its capacity and looks
-// at the other ones, then overwrites the list of them.
-func checkReducedApart(t *testing.T, c clauseCase) {
+// checkApart overwrites each list of a result up to its capacity and looks at
+// the other ones, then overwrites the list of them.
+func checkApart(t *testing.T, call func() [][]int) {
 	t.Helper()
-	want := wantReduce(c.l, c.given)
+	want := cloneClauses(call())
 	for i := range want {
-		got, _ := impl.Reduce(c.vars, c.l, c.given)
+		got := call()
 		spoilList(got[i])
 		for j := range want {
 			if j != i && !slices.Equal(got[j], want[j]) {
@@ -982,9 +992,12 @@ func checkReducedApart(t *testing.T, c clauseCase) {
 			}
 		}
 	}
-	got, _ := impl.Reduce(c.vars, c.l, c.given)
+	got := call()
 	for i := range got[:cap(got)] {
 		got[:cap(got)][i] = []int{-7}
+	}
+	if again := call(); !sameClauses(again, want) {
+		t.Fatalf("two results share memory: %v became %v", want, again)
 	}
 }
 
@@ -995,19 +1008,8 @@ func TestReduceOfSharedClauses(t *testing.T) {
 	whole := []int{4, 1, 5, -2}
 	l := [][]int{c, c, whole[:2], whole[1:], whole, c[:2], c[:0]}
 	for _, given := range [][]int{nil, {-1}, {3}, {6}} {
-		want := wantReduce(l, given)
-		for i := range want {
-			got, ok := impl.Reduce(6, l, given)
-			if !ok || !sameClauses(got, want) {
-				t.Fatalf("Reduce(6, %v, %v) = %v, %t, want %v", l, given, got, ok, want)
-			}
-			spoilList(got[i])
-			for j := range want {
-				if j != i && !slices.Equal(got[j], want[j]) {
-					t.Fatalf("the clauses %d and %d of %v share memory", i, j, want)
-				}
-			}
-		}
+		checkClauses(t, 6, l, given)
+		checkApart(t, func() [][]int { r, _ := impl.Reduce(6, l, given); return r })
 	}
 	if !slices.Equal(c, []int{1, 2, -3}) || !slices.Equal(whole, []int{4, 1, 5, -2}) {
 		t.Errorf("the clauses became %v and %v", c, whole)
