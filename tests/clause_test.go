@@ -245,10 +245,10 @@ func wantZeroClauses(t *testing.T, name string, vars int, l [][]int) {
 	}
 }
 
-func wantAcceptedClauses(t *testing.T, name string, vars int, l [][]int) {
+func wantAcceptedClauses(t *testing.T, vars int, l [][]int) {
 	t.Helper()
 	if !impl.GoodClauses(vars, l) {
-		t.Fatalf("GoodClauses rejects %s", name)
+		t.Fatalf("GoodClauses rejects %v of %d variables", l, vars)
 	}
 	checkClauses(t, vars, l, nil)
 	checkModels(t, vars, l, nil)
@@ -681,39 +681,77 @@ func TestCleanClauseOfLists(t *testing.T) {
 // badVars are numbers of variables that there are not.
 var badVars = []int{math.MinInt, math.MinInt + 1, -1 << 32, -13, -12, -2, -1, 13, 14, 64, 1 << 32, 1<<32 + 2, math.MaxInt}
 
-// Promise 19: numbers of variables that there are not give the zero result.
-func TestNumbersOfVariables(t *testing.T) {
-	lists := [][][]int{nil, {}, {{}}, {nil, {}}, {{1}}, {{1, 2}, {-1}}}
+// A taker checks a chapter's functions for clauses that they have to take, and
+// a refuser for clauses that are not valid, whatever is beside them.
+type (
+	taker   func(t *testing.T, vars int, l [][]int)
+	refuser func(t *testing.T, name string, vars int, l [][]int)
+)
+
+// checkVariableLimits is promise 19 for numbers of variables, and for clauses
+// of variables up to the last one and beyond it.
+func checkVariableLimits(t *testing.T, take taker, refuse refuser) {
+	t.Helper()
 	for _, vars := range badVars {
-		for _, l := range lists {
-			wantZeroClauses(t, fmt.Sprintf("%v of %d variables", l, vars), vars, l)
+		for _, l := range [][][]int{nil, {}, {{}}, {nil, {}}, {{1}}, {{1, 2}, {-1}}, {{1}, {-1}}} {
+			refuse(t, fmt.Sprintf("%v of %d variables", l, vars), vars, l)
 		}
 	}
 	for vars := range 13 {
-		wantAcceptedClauses(t, fmt.Sprintf("no clause of %d variables", vars), vars, nil)
-		wantAcceptedClauses(t, fmt.Sprintf("the empty clause of %d variables", vars), vars, [][]int{{}})
+		take(t, vars, nil)
+		take(t, vars, [][]int{{}})
 		for x := -13; x <= 13; x++ {
-			name := fmt.Sprintf("%d of %d variables", x, vars)
 			if x != 0 && max(x, -x) <= vars {
-				wantAcceptedClauses(t, name, vars, [][]int{{x}})
+				take(t, vars, [][]int{{x}})
+				take(t, vars, [][]int{{x}, {-x}})
 			} else {
-				wantZeroClauses(t, name, vars, [][]int{{x}})
+				refuse(t, fmt.Sprintf("%d of %d variables", x, vars), vars, [][]int{{x}})
 			}
 		}
 	}
 }
 
-// Promise 19: 60 clauses are accepted, 61 are not, whatever they are.
-func TestNumbersOfClauses(t *testing.T) {
+// checkClauseLimits is promise 19 for numbers of clauses: 60 are accepted, 61
+// are not, whatever they are.
+func checkClauseLimits(t *testing.T, take taker, refuse refuser) {
+	t.Helper()
 	for _, c := range [][]int{{}, {1}, {-2, 1}, {1, 2, 3}} {
 		for _, count := range []int{0, 1, 59, 60} {
-			wantAcceptedClauses(t, fmt.Sprintf("%v, %d times", c, count), 3, slices.Repeat([][]int{c}, count))
+			take(t, 3, slices.Repeat([][]int{c}, count))
 		}
 		for _, count := range []int{61, 62, 120, 1000} {
-			wantZeroClauses(t, fmt.Sprintf("%v, %d times", c, count), 3, slices.Repeat([][]int{c}, count))
+			refuse(t, fmt.Sprintf("%v, %d times", c, count), 3, slices.Repeat([][]int{c}, count))
 		}
 	}
-	// The last of 60 clauses counts as the first does.
+}
+
+// checkLiteralLimits is promise 19 for a clause that is not valid: it spoils
+// the list wherever it is.
+func checkLiteralLimits(t *testing.T, take taker, refuse refuser) {
+	t.Helper()
+	for name, c := range badClauses() {
+		for _, l := range [][][]int{{c}, {c, {1}}, {{1}, c}, {{}, {2}, c, {1, 2}}, append(slices.Repeat([][]int{{-1}}, 59), c)} {
+			refuse(t, name, 12, l)
+		}
+	}
+	twelve := []int{12, -11, 10, -9, 8, -7, 6, -5, 4, -3, 2, -1}
+	take(t, 12, [][]int{twelve, {12}, twelve})
+	for vars := range 12 {
+		refuse(t, "12 literals", vars, [][]int{twelve})
+		refuse(t, "a literal beyond", vars, [][]int{{}, {vars + 1}})
+		refuse(t, "a negation beyond", vars, [][]int{{-vars - 1}})
+	}
+}
+
+// Promise 19: what is just valid is taken, and what is just not is refused.
+func TestClausesAtTheLimits(t *testing.T) {
+	checkVariableLimits(t, wantAcceptedClauses, wantZeroClauses)
+	checkClauseLimits(t, wantAcceptedClauses, wantZeroClauses)
+	checkLiteralLimits(t, wantAcceptedClauses, wantZeroClauses)
+}
+
+// The last of 60 clauses counts as the first does.
+func TestLastOfSixtyClauses(t *testing.T) {
 	l := append(slices.Repeat([][]int{{2, 3}}, 59), []int{-3})
 	if p, bad, ok := impl.Propagate(3, l, nil); !slices.Equal(p, []int{-3, 2}) || bad || !ok {
 		t.Errorf("Propagate = %v, %t, %t", p, bad, ok)
@@ -753,22 +791,6 @@ func badClauses() map[string][]int {
 		"13 literals, 0":                append(slices.Clone(twelve), 0),
 		"24 literals":                   slices.Concat(twelve, twelve),
 		"many literals":                 slices.Repeat([]int{2}, 5000),
-	}
-}
-
-// Promise 19: a clause that is not valid spoils the list wherever it is.
-func TestBadClauses(t *testing.T) {
-	for name, c := range badClauses() {
-		for _, l := range [][][]int{{c}, {c, {1}}, {{1}, c}, {{}, {2}, c, {1, 2}}, append(slices.Repeat([][]int{{-1}}, 59), c)} {
-			wantZeroClauses(t, name, 12, l)
-		}
-	}
-	twelve := []int{12, -11, 10, -9, 8, -7, 6, -5, 4, -3, 2, -1}
-	wantAcceptedClauses(t, "12 literals", 12, [][]int{twelve, {12}, twelve})
-	for vars := range 12 {
-		wantZeroClauses(t, "12 literals", vars, [][]int{twelve})
-		wantZeroClauses(t, "a literal beyond", vars, [][]int{{}, {vars + 1}})
-		wantZeroClauses(t, "a negation beyond", vars, [][]int{{-vars - 1}})
 	}
 }
 

@@ -932,38 +932,15 @@ func TestSameModelsNumbersOfClauses(t *testing.T) {
 	}
 }
 
-// Promise 19: numbers of variables that there are not give the zero result.
-func TestSearchNumbersOfVariables(t *testing.T) {
-	lists := [][][]int{nil, {}, {{}}, {nil, {}}, {{1}}, {{1, 2}, {-1}}}
-	for _, vars := range badVars {
-		for _, l := range lists {
-			wantZeroSearch(t, fmt.Sprintf("%v of %d variables", l, vars), vars, l)
-		}
-	}
-	for vars := range 13 {
-		wantAcceptedSearch(t, vars, nil)
-		wantAcceptedSearch(t, vars, [][]int{{}})
-		for x := -13; x <= 13; x++ {
-			if x != 0 && max(x, -x) <= vars {
-				wantAcceptedSearch(t, vars, [][]int{{x}})
-			} else {
-				wantZeroSearch(t, fmt.Sprintf("%d of %d variables", x, vars), vars, [][]int{{x}})
-			}
-		}
-	}
+// Promise 19: what is just valid is taken, and what is just not is refused.
+func TestSearchesAtTheLimits(t *testing.T) {
+	checkVariableLimits(t, wantAcceptedSearch, wantZeroSearch)
+	checkClauseLimits(t, wantAcceptedSearch, wantZeroSearch)
+	checkLiteralLimits(t, wantAcceptedSearch, wantZeroSearch)
 }
 
-// Promise 19: 60 clauses are accepted, 61 are not, whatever they are.
-func TestSearchNumbersOfClauses(t *testing.T) {
-	for _, c := range [][]int{{}, {1}, {-2, 1}, {1, 2, 3}} {
-		for _, count := range []int{0, 1, 59, 60} {
-			wantAcceptedSearch(t, 3, slices.Repeat([][]int{c}, count))
-		}
-		for _, count := range []int{61, 62, 120, 1000} {
-			wantZeroSearch(t, fmt.Sprintf("%v, %d times", c, count), 3, slices.Repeat([][]int{c}, count))
-		}
-	}
-	// The last of 60 clauses counts as the first does.
+// The last of 60 clauses counts as the first does.
+func TestSearchLastOfSixtyClauses(t *testing.T) {
 	l := append(slices.Repeat([][]int{{2, 3}}, 59), []int{-3})
 	if got, want := solved(3, l), (solution{true, []bool{true, true, false}, nil, true}); !got.is(want) {
 		t.Errorf("Solve = %v, want %v", got, want)
@@ -975,22 +952,6 @@ func TestSearchNumbersOfClauses(t *testing.T) {
 	l = append(slices.Repeat([][]int{{5, 6}}, 57), contradiction(5, 6)[1:]...)
 	if got := checkSolveByModels(t, 6, l); got.found || len(got.learned) != 32 {
 		t.Errorf("Solve = %v", got)
-	}
-}
-
-// Promise 19: a clause that is not valid spoils the list wherever it is.
-func TestSearchBadClauses(t *testing.T) {
-	for name, c := range badClauses() {
-		for _, l := range [][][]int{{c}, {c, {1}}, {{1}, c}, {{}, {2}, c, {1, 2}}, append(slices.Repeat([][]int{{-1}}, 59), c)} {
-			wantZeroSearch(t, name, 12, l)
-		}
-	}
-	twelve := []int{12, -11, 10, -9, 8, -7, 6, -5, 4, -3, 2, -1}
-	wantAcceptedSearch(t, 12, [][]int{twelve, {12}, twelve})
-	for vars := range 12 {
-		wantZeroSearch(t, "12 literals", vars, [][]int{twelve})
-		wantZeroSearch(t, "a literal beyond", vars, [][]int{{}, {vars + 1}})
-		wantZeroSearch(t, "a negation beyond", vars, [][]int{{-vars - 1}})
 	}
 }
 
