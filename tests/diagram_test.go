@@ -1090,16 +1090,10 @@ func TestSpoiledDiagrams(t *testing.T) {
 // Promise 19: the functions answer for every number in every place.
 func TestDiagramsWithOddNumbers(t *testing.T) {
 	g := lcg(91)
-	some := func() int {
-		if g.below(3) == 0 {
-			return oddNumbers[g.below(len(oddNumbers))]
-		}
-		return g.below(6)
-	}
 	for range 6000 {
-		d := impl.Diagram{Vars: some(), Root: some()}
+		d := impl.Diagram{Vars: oftenSmall(&g), Root: oftenSmall(&g)}
 		for range g.below(5) {
-			d.Nodes = append(d.Nodes, impl.Node{Var: some(), Low: some(), High: some()})
+			d.Nodes = append(d.Nodes, impl.Node{Var: oftenSmall(&g), Low: oftenSmall(&g), High: oftenSmall(&g)})
 		}
 		checkAnyDiagram(t, d)
 	}

@@ -573,6 +573,14 @@ func (g *lcg) below(n int) int {
 	return int(uint64(*g)>>33) % n
 }
 
+// oftenSmall returns an odd number, but more often one that may be valid.
+func oftenSmall(g *lcg) int {
+	if g.below(3) == 0 {
+		return oddNumbers[g.below(len(oddNumbers))]
+	}
+	return g.below(6)
+}
+
 func someProgram(g *lcg) []impl.Step {
 	p := make([]impl.Step, 1+g.below(impl.MaxSteps))
 	for i := range p {
