@@ -839,11 +839,11 @@ func TestBadContexts(t *testing.T) {
 	}
 }
 
-// Promise 19: programs that are not valid, also where the fault is in a step
+// badPrograms are not valid for one reason each; in some of them it is in a step
 // that no run begins.
-func TestRunsOfBadPrograms(t *testing.T) {
+func badPrograms() map[string][]impl.Step {
 	exit := impl.Step{Kind: impl.StExit}
-	bad := map[string][]impl.Step{
+	return map[string][]impl.Step{
 		"nil":                  nil,
 		"no steps":             {},
 		"21 steps":             slices.Repeat([]impl.Step{exit}, 21),
@@ -868,7 +868,11 @@ func TestRunsOfBadPrograms(t *testing.T) {
 		"a field that is left": {{Kind: impl.StSet, To: 1}, exit, exit},
 		"an exit with a field": {{Kind: impl.StExit, Imm: 1}},
 	}
-	for name, p := range bad {
+}
+
+// Promise 19: programs that are not valid.
+func TestRunsOfBadPrograms(t *testing.T) {
+	for name, p := range badPrograms() {
 		before := slices.Clone(p)
 		for at := range 20 {
 			m := impl.NewMachine()
